@@ -27,6 +27,8 @@ const (
 	Bool
 )
 
+var kindNames = [...]string{Int: "int", Str: "str", Bool: "bool"}
+
 // Packing is how a segment's column is laid.
 type Packing int
 
@@ -38,7 +40,14 @@ const (
 )
 
 const (
-	maxString  = 12   // bytes of a string
+	maxText    = 300 // bytes of a command
+	maxLetters = 8   // of a word
+	maxDigits  = 19  // of a number
+	maxString  = 12  // bytes of a string
+	maxDepth   = 8   // of an expression
+	maxTables  = 4
+	maxColumns = 5
+	maxGrants  = 8
 	maxRows    = 64   // rows of a table, cells of a packed column
 	maxSegment = 16   // rows of a segment
 	maxWidth   = 16   // rows of a batch
@@ -65,11 +74,17 @@ type Options struct {
 // Store keeps tables and grants. Make it by New.
 type Store struct {
 	options Options
+	tables  map[string]*table
+	grants  map[grantKey]granted
 }
 
 // New makes a store (P1).
 func New(o Options) *Store {
-	return &Store{options: withinBounds(o)}
+	return &Store{
+		options: withinBounds(o),
+		tables:  map[string]*table{},
+		grants:  map[grantKey]granted{},
+	}
 }
 
 func withinBounds(o Options) Options {
@@ -82,8 +97,43 @@ func withinBounds(o Options) Options {
 	return o
 }
 
-// Do carries out a user's command (P5 to P13).
-func (s *Store) Do(user string, command string) (string, Errno, int) { return "", 0, 0 }
+// Do carries out a user's command (P5 to P7; of queries, those of `from` alone).
+func (s *Store) Do(user string, command string) (string, Errno, int) {
+	if len(command) > maxText {
+		return "", ErrLong, 0
+	}
+	parsed, wrong := parse(command)
+	if wrong.is() {
+		return "", wrong.errno, wrong.place
+	}
+	text, wrong := s.made().carryOut(user, parsed)
+	return text, wrong.errno, wrong.place
+}
 
-// Touched tells how many segments the last query read (P14).
+// made answers the store as New makes it: one that was not made by New has no
+// maps, and its options are not within their bounds.
+func (s *Store) made() *Store {
+	if s == nil {
+		return New(Options{})
+	}
+	if s.tables == nil {
+		*s = *New(s.options)
+	}
+	return s
+}
+
+func (s *Store) carryOut(user string, parsed command) (string, fault) {
+	switch c := parsed.(type) {
+	case query:
+		return c.answer(s, user)
+	case change:
+		if user != admin {
+			return "", fault{ErrDenied, 0}
+		}
+		return "", c.apply(s)
+	}
+	return "", fault{}
+}
+
+// Touched tells how many segments the last query read (P14; not built yet).
 func (s *Store) Touched() int { return 0 }

@@ -1,0 +1,69 @@
+package quarry
+
+// column is what a column is called, and of which kind its cells are.
+type column struct {
+	name string
+	kind Kind
+}
+
+// batch is some rows, kept by columns.
+type batch [][]Cell
+
+// segment is a few rows of a table: the packed text of each column.
+type segment []string
+
+type table struct {
+	columns  []column
+	segments []segment
+	rows     int
+}
+
+// add lays rows, given by columns, behind those that the table has. A last
+// segment with room is packed anew together with them, so that all segments but
+// the last one are always full.
+func (t *table) add(more batch, rows int, o Options) {
+	if begun := t.rows % o.Segment; begun > 0 {
+		last := len(t.segments) - 1
+		more = joined(t.segments[last].unpacked(), more)
+		rows += begun
+		t.segments = t.segments[:last]
+		t.rows -= begun
+	}
+	for from := 0; from < rows; from += o.Segment {
+		part := more.part(from, min(from+o.Segment, rows))
+		t.segments = append(t.segments, t.packed(part, o.Packing))
+	}
+	t.rows += rows
+}
+
+func joined(first, second batch) batch {
+	out := make(batch, len(first))
+	for i := range out {
+		out[i] = append(first[i], second[i]...)
+	}
+	return out
+}
+
+func (b batch) part(from, to int) batch {
+	out := make(batch, len(b))
+	for i := range out {
+		out[i] = b[i][from:to]
+	}
+	return out
+}
+
+func (t *table) packed(rows batch, p Packing) segment {
+	out := make(segment, len(rows))
+	for i := range out {
+		out[i], _ = Pack(p, t.columns[i].kind, rows[i])
+	}
+	return out
+}
+
+func (s segment) unpacked() batch {
+	out := make(batch, len(s))
+	for i := range out {
+		_, out[i], _ = Unpack(s[i])
+	}
+	return out
+}
