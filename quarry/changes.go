@@ -92,7 +92,7 @@ func (c load) apply(s *Store) fault {
 	if t.rows+len(c.rows) > maxRows {
 		return fault{ErrFull, 0}
 	}
-	t.add(c.byColumns(len(t.columns)), len(c.rows), s.options)
+	t.add(c.byColumns(len(t.columns)), s.options)
 	return fault{}
 }
 

@@ -186,8 +186,14 @@ func TestP1AStoreThatNewDidNotMake(t *testing.T) {
 	play(t, nil, fails("from ^t", ErrName), done("admin", "create t(a int)"), fails("from ^t", ErrName), fails("drop ^t", ErrName), fails("^", ErrText))
 }
 
+// hasUnbuilt tells whether a text may have a stage that is read and not worked
+// out: it is refused only where its table is known.
+func hasUnbuilt(text string) bool {
+	return strings.Contains(text, "join") || strings.Contains(text, "group") || strings.Contains(text, "order")
+}
+
 func FuzzDo(f *testing.F) {
-	for _, text := range []string{"create u(a int)", "drop t", "load t (1,'x',true)", "grant ann on t (a) where -a / 0 = 1 or b < 'x' and not c", "revoke ann on t", "from t", "from t | group a : n = count() | order n down, a | limit 3", "from t | join u on a = b | map a = a % b, c = (d) is not null"} {
+	for _, text := range []string{"create u(a int)", "drop t", "load t (1,'x',true)", "grant ann on t (a) where -a / 0 = 1 or b < 'x' and not c", "revoke ann on t", "from t", "from t | where a / 2 > 0 | map x = b, y = -a % 3 | limit 2", "from t | group a : n = count() | order n down, a | limit 3", "from t | join u on a = b | map a = a % b, c = (d) is not null"} {
 		f.Add("admin", text)
 		f.Add("ann", text)
 	}
@@ -205,7 +211,7 @@ func FuzzDo(f *testing.F) {
 		if (e != OK || user != admin) && before != after {
 			t.Errorf("Do(%q, %q) = %d, and the table has changed", user, text, e)
 		}
-		if _, f, at := New(Options{}).Do("eve", text); e == ErrText && !strings.Contains(text, "|") && (f != e || at != place) {
+		if _, f, at := New(Options{}).Do("eve", text); e == ErrText && !hasUnbuilt(text) && (f != e || at != place) {
 			t.Errorf("Do(%q, %q) = %d, %d, and for eve of an empty store %d, %d", user, text, e, place, f, at)
 		}
 	})

@@ -2,10 +2,10 @@ package quarry
 
 import "cmp"
 
-// outcome is what an expression is for a row: a cell, unless it erred.
+// outcome is what an expression is for a row: a cell, or the first ErrMath.
 type outcome struct {
 	cell  Cell
-	erred bool
+	wrong fault
 }
 
 // worker works an expression out for some rows of a batch, and answers their
@@ -23,7 +23,7 @@ func compile(n node, columns []column) worker {
 	case nullTest:
 		return afterOne(compile(n.part, columns), func(c Cell) outcome { return truth(c.Null != n.negated) })
 	case single:
-		return afterOne(compile(n.part, columns), unlessNull(singleWay(n.operator)))
+		return afterOne(compile(n.part, columns), unlessNull(singleWay(n.operator, n.place)))
 	case double:
 		return compileDouble(n, columns)
 	}
@@ -38,7 +38,7 @@ func compileDouble(n double, columns []column) worker {
 	case or:
 		return unlessSettled(left, right, true)
 	}
-	return afterTwo(left, right, doubleWay(n.operator))
+	return afterTwo(left, right, doubleWay(n.operator, n.place))
 }
 
 func forEach(cellOf func(b batch, row int) Cell) worker {
@@ -55,7 +55,7 @@ func afterOne(part worker, way func(Cell) outcome) worker {
 	return func(b batch, rows []int) []outcome {
 		out := part(b, rows)
 		for i, o := range out {
-			if !o.erred {
+			if !o.wrong.is() {
 				out[i] = way(o.cell)
 			}
 		}
@@ -70,8 +70,8 @@ func afterTwo(left, right worker, way func(left, right Cell) outcome) worker {
 		out := left(b, rows)
 		for i, r := range right(b, rows) {
 			switch l := out[i]; {
-			case l.erred:
-			case r.erred:
+			case l.wrong.is():
+			case r.wrong.is():
 				out[i] = r
 			case l.cell.Null || r.cell.Null:
 				out[i] = outcome{cell: Cell{Null: true}}
@@ -92,13 +92,13 @@ func unlessSettled(left, right worker, settling bool) worker {
 		out := left(b, rows)
 		var open, openRows []int
 		for i, o := range out {
-			if !o.erred && o != settled {
+			if !o.wrong.is() && o != settled {
 				open = append(open, i)
 				openRows = append(openRows, rows[i])
 			}
 		}
 		for i, r := range right(b, openRows) {
-			if l := &out[open[i]]; r.erred || r == settled || !l.cell.Null {
+			if l := &out[open[i]]; r.wrong.is() || r == settled || !l.cell.Null {
 				*l = r
 			}
 		}
@@ -122,25 +122,29 @@ func truth(holds bool) outcome {
 	return outcome{}
 }
 
-func singleWay(o operator) func(Cell) outcome {
+func singleWay(o operator, place int) func(Cell) outcome {
 	if o == not {
 		return func(c Cell) outcome { return truth(c.N == 0) }
 	}
+	number := numberAt(place)
 	return func(c Cell) outcome { return number(difference(0, c.N)) }
 }
 
-func doubleWay(o operator) func(left, right Cell) outcome {
+func doubleWay(o operator, place int) func(left, right Cell) outcome {
 	if o >= equal && o <= atLeast {
 		return func(left, right Cell) outcome { return truth(meets(o, compare(left, right))) }
 	}
+	number := numberAt(place)
 	return func(left, right Cell) outcome { return number(calculate(o, left.N, right.N)) }
 }
 
-func number(n int, inside bool) outcome {
-	if !inside {
-		return outcome{erred: true}
+func numberAt(place int) func(n int, inside bool) outcome {
+	return func(n int, inside bool) outcome {
+		if !inside {
+			return outcome{wrong: fault{ErrMath, place}}
+		}
+		return outcome{cell: Cell{N: n}}
 	}
-	return outcome{cell: Cell{N: n}}
 }
 
 // compare holds two cells of one kind against each other, neither of them null:

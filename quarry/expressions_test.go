@@ -1,20 +1,19 @@
 package quarry
 
 import (
-	"math/big"
 	"math/rand"
 	"strconv"
 	"strings"
 	"testing"
 )
 
-// P8 and P9 are held to as far as the condition of a grant goes.
-func TestP6ErrorsOfTheConditionOfAGrant(t *testing.T) {
+// Expressions and what is wrong with them, wherever they stand.
+func TestP8ErrorsOfAnExpression(t *testing.T) {
 	s := New(roomy)
 	play(t, s, done("admin", "create t(n int,s str,b bool)"))
 	for _, x := range []struct {
-		condition string
-		errno     Errno
+		text  string
+		errno Errno
 	}{
 		{"^x", ErrName}, {"not ^x", ErrName}, {"-^x = 1", ErrName}, {"^x is null", ErrName}, {"(^x)", ErrName}, {"n = ^x", ErrName}, {"^t", ErrName}, {"b and ^ann", ErrName},
 		{"^x = y", ErrName}, {"n + ^x > y", ErrName}, {"n = 1 and b and ^x or y", ErrName},
@@ -25,15 +24,22 @@ func TestP6ErrorsOfTheConditionOfAGrant(t *testing.T) {
 		{"n ^= s", ErrType}, {"s ^<> n", ErrType}, {"b ^< n", ErrType}, {"n ^<= b", ErrType}, {"s ^> b", ErrType}, {"b ^>= s", ErrType}, {"n ^= 'a'", ErrType}, {"1 ^= true", ErrType}, {"b ^= 1", ErrType}, {"(n = 1) ^= 1", ErrType},
 		{"n ^and b", ErrType}, {"b ^and n", ErrType}, {"s ^and b", ErrType}, {"b ^and 'a'", ErrType}, {"n ^or b", ErrType}, {"b ^or 1", ErrType}, {"b and b ^and n", ErrType}, {"b or b and b ^and n", ErrType}, {"b ^or n or b", ErrType}, {"b ^or n", ErrType},
 		{"^not n", ErrType}, {"^not s", ErrType}, {"^not 1", ErrType}, {"not ^not n", ErrType}, {"^not n is null", OK}, {"^not -n", ErrType}, {"b and ^not (n)", ErrType},
-		{"^n", ErrType}, {"^s", ErrType}, {"^(n)", ErrType}, {"^n + 1", ErrType}, {"^(n + 1) * 2", ErrType}, {"^((s))", ErrType}, {"^- n", ErrType},
 		{"^b", OK}, {"^true", OK}, {"^n = 1", OK}, {"^s = 'a'", OK}, {"^b = b", OK}, {"^b < true", OK}, {"^n is null", OK}, {"^s is not null", OK}, {"^b is null", OK}, {"^(n = 1) = b", OK}, {"^(n is null) is null", OK}, {"^-n + n * n / n % n - -1 <= n", OK}, {"n ^+ s is null", ErrType},
 	} {
-		place := max(strings.IndexByte(x.condition, '^'), 0)
-		text := "grant ann on t (n) where " + strings.Replace(x.condition, "^", "", 1)
-		_, e, at := s.Do("admin", text)
-		if e != x.errno || e != OK && at != place+25 || e == OK && at != 0 {
-			t.Errorf("%q: %d at %d, want %d at %d", x.condition, e, at-25, x.errno, place)
+		for _, before := range []string{"grant ann on t (n) where ", "from t | where ", "from t | map x = ", "from t | limit 0 | map y = 1, x = "} {
+			asked := fails(before+x.text, x.errno)
+			if _, e, at := s.Do("admin", asked.text); e != x.errno || e != OK && at != asked.place || e == OK && at != 0 {
+				t.Errorf("%q: %d at %d, want %d at %d", asked.text, e, at, x.errno, asked.place)
+			}
 		}
+	}
+}
+
+func TestP8AConditionIsOfKindBool(t *testing.T) {
+	s := New(roomy)
+	play(t, s, done("admin", "create t(n int,s str,b bool)"))
+	for _, text := range []string{"^n", "^s", "^1", "^'true'", "^(n)", "^n + 1", "^(n + 1) * 2", "^((s))", "^- n", "^-(n)", "^n % 2 - 1"} {
+		play(t, s, fails("grant ann on t (n) where "+text, ErrType), fails("from t | where "+text, ErrType), fails("from t | where b|where  "+text+" | map n = x", ErrType))
 	}
 }
 
@@ -82,188 +88,10 @@ func TestP10Values(t *testing.T) {
 	}
 }
 
-// told is what a condition is worth in the test's own reckoning: a number
-// without bounds, a string, a truth, null, or nothing at all where it errs.
-type told struct {
-	n          *big.Int
-	s          string
-	null, errs bool
-}
-
-// maker writes conditions at random, and works them out on its own for one row.
-type maker struct {
-	r *rand.Rand
-}
-
-type made struct {
-	text string
-	of   func(row map[string]told) told
-}
-
-func (m maker) pick(choices ...string) string { return choices[m.r.Intn(len(choices))] }
-
-func numberTold(n int64) told { return told{n: big.NewInt(n)} }
-
-func truthTold(holds bool) told {
-	if holds {
-		return numberTold(1)
-	}
-	return numberTold(0)
-}
-
-func (m maker) leaf(k Kind) made {
-	name := map[Kind]string{Int: m.pick("n", "m"), Str: "s", Bool: "b"}[k]
-	if m.r.Intn(2) == 0 {
-		return made{name, func(row map[string]told) told { return row[name] }}
-	}
-	text := map[Kind]string{Int: m.pick("0", "1", "2", "3", "9223372036854775807", "4611686018427387904"), Str: m.pick("''", "'a'", "'ab'"), Bool: m.pick("true", "false")}[k]
-	value := told{s: strings.Trim(text, "'")}
-	switch k {
-	case Int:
-		n, _ := strconv.ParseInt(text, 10, 64)
-		value = numberTold(n)
-	case Bool:
-		value = truthTold(text == "true")
-	}
-	return made{text, func(map[string]told) told { return value }}
-}
-
-// make answers an expression of that kind, always in brackets but for a leaf.
-func (m maker) make(k Kind, depth int) made {
-	if depth == 0 || k == Str || m.r.Intn(6) == 0 {
-		return m.leaf(k)
-	}
-	if k == Int {
-		return m.makeNumber(depth)
-	}
-	switch m.r.Intn(6) {
-	case 0:
-		part := m.make(Bool, depth-1)
-		return made{"(not " + part.text + ")", func(row map[string]told) told {
-			x := part.of(row)
-			if x.errs || x.null {
-				return x
-			}
-			return truthTold(x.n.Sign() == 0)
-		}}
-	case 1:
-		part := m.make(Kind(m.r.Intn(3)), depth-1)
-		sense := m.pick("null", "not null")
-		return made{"(" + part.text + " is " + sense + ")", func(row map[string]told) told {
-			x := part.of(row)
-			if x.errs {
-				return x
-			}
-			return truthTold(x.null == (sense == "null"))
-		}}
-	case 2, 3:
-		return m.makeLogic(depth)
-	}
-	return m.makeTest(depth)
-}
-
-func (m maker) makeLogic(depth int) made {
-	left, right, o := m.make(Bool, depth-1), m.make(Bool, depth-1), m.pick("and", "or")
-	settling := truthTold(o == "or").n
-	return made{"(" + left.text + " " + o + " " + right.text + ")", func(row map[string]told) told {
-		l := left.of(row)
-		if l.errs || !l.null && l.n.Cmp(settling) == 0 {
-			return l
-		}
-		r := right.of(row)
-		if r.errs || !r.null && r.n.Cmp(settling) == 0 {
-			return r
-		}
-		if l.null || r.null {
-			return told{null: true}
-		}
-		return truthTold(o == "and")
-	}}
-}
-
-func (m maker) makeTest(depth int) made {
-	k := Kind(m.r.Intn(3))
-	left, right, o := m.make(k, depth-1), m.make(k, depth-1), m.pick("=", "<>", "<", "<=", ">", ">=")
-	return made{"(" + left.text + o + right.text + ")", func(row map[string]told) told {
-		l, r := left.of(row), right.of(row)
-		switch {
-		case l.errs:
-			return l
-		case r.errs:
-			return r
-		case l.null || r.null:
-			return told{null: true}
-		}
-		order := strings.Compare(l.s, r.s)
-		if k != Str {
-			order = l.n.Cmp(r.n)
-		}
-		return truthTold(map[string]bool{"=": order == 0, "<>": order != 0, "<": order < 0, "<=": order <= 0, ">": order > 0, ">=": order >= 0}[o])
-	}}
-}
-
-func (m maker) makeNumber(depth int) made {
-	left, o := m.make(Int, depth-1), m.pick("+", "-", "*", "/", "%", "turn")
-	if o == "turn" {
-		return made{"(-" + left.text + ")", func(row map[string]told) told {
-			x := left.of(row)
-			if x.errs || x.null {
-				return x
-			}
-			return bounded(new(big.Int).Neg(x.n))
-		}}
-	}
-	right := m.make(Int, depth-1)
-	return made{"(" + left.text + o + right.text + ")", func(row map[string]told) told {
-		l, r := left.of(row), right.of(row)
-		switch {
-		case l.errs || r.errs:
-			return told{errs: true}
-		case l.null || r.null:
-			return told{null: true}
-		case r.n.Sign() == 0 && (o == "/" || o == "%"):
-			return told{errs: true}
-		}
-		out := new(big.Int)
-		switch o {
-		case "+":
-			out.Add(l.n, r.n)
-		case "-":
-			out.Sub(l.n, r.n)
-		case "*":
-			out.Mul(l.n, r.n)
-		case "/":
-			out.Quo(l.n, r.n)
-		case "%":
-			out.Rem(l.n, r.n)
-		}
-		return bounded(out)
-	}}
-}
-
-func bounded(n *big.Int) told {
-	if !n.IsInt64() {
-		return told{errs: true}
-	}
-	return told{n: n}
-}
-
 func TestP10ConditionsAgainstAReckoningOfItsOwn(t *testing.T) {
-	m := maker{rand.New(rand.NewSource(1))}
+	m := maker{rand.New(rand.NewSource(1)), []column{{"n", Int}, {"m", Int}, {"s", Str}, {"b", Bool}}}
 	numbers := []string{"null", "0", "1", "-1", "2", "-3", "9223372036854775807", "-9223372036854775807"}
 	options := allOptions()
-	valueOf := func(text string) told {
-		n, err := strconv.ParseInt(text, 10, 64)
-		switch {
-		case text == "null":
-			return told{null: true}
-		case err == nil:
-			return numberTold(n)
-		case text[0] == '\'':
-			return told{s: strings.Trim(text, "'")}
-		}
-		return truthTold(text == "true")
-	}
 	shown, hidden := 0, 0
 	for range 3000 {
 		s := New(options[m.r.Intn(len(options))])
@@ -276,7 +104,7 @@ func TestP10ConditionsAgainstAReckoningOfItsOwn(t *testing.T) {
 		for id := range 12 {
 			row := []string{m.pick(numbers...), m.pick(numbers...), m.pick("null", "''", "'a'", "'b'"), m.pick("null", "true", "false")}
 			play(t, s, done("admin", "load t ("+strconv.Itoa(id)+","+strings.Join(row, ",")+")"))
-			x := condition.of(map[string]told{"n": valueOf(row[0]), "m": valueOf(row[1]), "s": valueOf(row[2]), "b": valueOf(row[3])})
+			x := condition.of(tellers{"n": valueOf(row[0]), "m": valueOf(row[1]), "s": valueOf(row[2]), "b": valueOf(row[3])})
 			if !x.errs && !x.null && x.n.Sign() == 1 {
 				want = append(want, strconv.Itoa(id))
 				shown++

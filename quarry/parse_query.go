@@ -8,15 +8,17 @@ func (p *parser) query(place int) command {
 	return q
 }
 
-// Of a stage no more is kept than where it begins: it is read to find the first
-// fault of the text, and no query is worked out beyond its `from` yet.
 func (p *parser) stage() stage {
 	first := p.take()
+	return stage{first.place, p.act(first)}
+}
+
+func (p *parser) act(first token) act {
 	switch first.kind {
 	case whereWord:
-		p.formula()
+		return where{p.formula()}
 	case mapWord:
-		list(p, p.mapped)
+		return remake{list(p, p.remade)}
 	case joinWord:
 		p.join()
 	case groupWord:
@@ -24,18 +26,17 @@ func (p *parser) stage() stage {
 	case orderWord:
 		list(p, p.orderKey)
 	case limitWord:
-		p.must(numberToken)
+		return limit{p.must(numberToken).number}
 	default:
 		p.refuse(first)
 	}
-	return stage{first.place}
+	return unbuilt{first.place}
 }
 
-func (p *parser) mapped() name {
+func (p *parser) remade() remade {
 	column := p.name()
 	p.must(equalSign)
-	p.formula()
-	return column
+	return remade{column, p.formula()}
 }
 
 func (p *parser) join() {

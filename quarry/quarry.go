@@ -97,7 +97,8 @@ func withinBounds(o Options) Options {
 	return o
 }
 
-// Do carries out a user's command (P5 to P7; of queries, those of `from` alone).
+// Do carries out a user's command (P5 to P13; of a query's stages `where`, `map`
+// and `limit`).
 func (s *Store) Do(user string, command string) (string, Errno, int) {
 	if len(command) > maxText {
 		return "", ErrLong, 0

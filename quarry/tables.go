@@ -1,13 +1,36 @@
 package quarry
 
+import "iter"
+
 // column is what a column is called, and of which kind its cells are.
 type column struct {
 	name string
 	kind Kind
 }
 
-// batch is some rows, kept by columns.
+// batch is some rows, kept by columns, of which there is at least one.
 type batch [][]Cell
+
+func (b batch) rows() int { return len(b[0]) }
+
+func (b batch) part(from, to int) batch {
+	out := make(batch, len(b))
+	for i := range out {
+		out[i] = b[i][from:to]
+	}
+	return out
+}
+
+// pieces goes through the rows in order, some at once.
+func (b batch) pieces(rows int) iter.Seq[batch] {
+	return func(yield func(batch) bool) {
+		for from := 0; from < b.rows(); from += rows {
+			if !yield(b.part(from, min(from+rows, b.rows()))) {
+				return
+			}
+		}
+	}
+}
 
 // segment is a few rows of a table: the packed text of each column.
 type segment []string
@@ -21,33 +44,23 @@ type table struct {
 // add lays rows, given by columns, behind those that the table has. A last
 // segment with room is packed anew together with them, so that all segments but
 // the last one are always full.
-func (t *table) add(more batch, rows int, o Options) {
+func (t *table) add(more batch, o Options) {
 	if begun := t.rows % o.Segment; begun > 0 {
 		last := len(t.segments) - 1
 		more = joined(t.segments[last].unpacked(), more)
-		rows += begun
 		t.segments = t.segments[:last]
 		t.rows -= begun
 	}
-	for from := 0; from < rows; from += o.Segment {
-		part := more.part(from, min(from+o.Segment, rows))
+	for part := range more.pieces(o.Segment) {
 		t.segments = append(t.segments, t.packed(part, o.Packing))
 	}
-	t.rows += rows
+	t.rows += more.rows()
 }
 
 func joined(first, second batch) batch {
 	out := make(batch, len(first))
 	for i := range out {
 		out[i] = append(first[i], second[i]...)
-	}
-	return out
-}
-
-func (b batch) part(from, to int) batch {
-	out := make(batch, len(b))
-	for i := range out {
-		out[i] = b[i][from:to]
 	}
 	return out
 }

@@ -19,7 +19,7 @@ func TestRowsLieInFullSegmentsButForTheLast(t *testing.T) {
 					more[i].N = len(all) + i
 				}
 				all = append(all, more...)
-				kept.add(batch{more}, piece, o)
+				kept.add(batch{more}, o)
 			}
 			if kept.rows != len(all) {
 				t.Fatalf("%+v, pieces of %d: %d rows, want %d", o, piece, kept.rows, len(all))

@@ -43,31 +43,46 @@ func upTo(count int) []int {
 	return out
 }
 
-// read makes a sheet of the view, segment by segment and in each batch by batch.
-func (v view) read(o Options) sheet {
-	out := sheet{cells: make(batch, len(v.shown))}
+func (v view) columns() []column {
+	var out []column
 	for _, i := range v.shown {
-		out.columns = append(out.columns, v.table.columns[i])
+		out = append(out, v.table.columns[i])
 	}
+	return out
+}
+
+// read goes through the view's rows, segment by segment and in each batch by
+// batch. It makes a sheet of those that all sieves keep, and tells how many the
+// view has: a sieve sees nothing but the view, because it could tell of more.
+func (v view) read(o Options, sieves []*sieve) (sheet, int) {
+	out, count := newSheet(v.columns()), 0
 	for _, s := range v.table.segments {
-		rows := s.unpacked()
-		count := len(rows[0])
-		for from := 0; from < count; from += o.Width {
-			v.readBatch(&out, rows.part(from, min(from+o.Width, count)))
+		for b := range s.unpacked().pieces(o.Width) {
+			rows, shown := v.rowsOf(b), v.shownOf(b)
+			count += len(rows)
+			for _, s := range sieves {
+				rows = s.keep(shown, rows)
+			}
+			out.add(shown, rows)
+		}
+	}
+	return out, count
+}
+
+func (v view) rowsOf(b batch) []int {
+	var out []int
+	for row, o := range v.condition(b, upTo(b.rows())) {
+		if o == truth(true) {
+			out = append(out, row)
 		}
 	}
 	return out
 }
 
-func (v view) readBatch(out *sheet, b batch) {
-	rows := upTo(len(b[0]))
-	for row, o := range v.condition(b, rows) {
-		if o != truth(true) {
-			continue
-		}
-		for i, place := range v.shown {
-			out.cells[i] = append(out.cells[i], b[place][row])
-		}
-		out.rows++
+func (v view) shownOf(b batch) batch {
+	var out batch
+	for _, i := range v.shown {
+		out = append(out, b[i])
 	}
+	return out
 }

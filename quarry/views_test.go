@@ -81,10 +81,3 @@ func TestP12TheRowsOfFromAreCounted(t *testing.T) {
 		}
 	}
 }
-
-func TestStagesAreRefusedUntilTheyAreBuilt(t *testing.T) {
-	play(t, New(roomy),
-		done("admin", "create t(a int)"), fails("from t | ^limit 1", ErrText), fails("from t | ^where a = 1 | limit 1", ErrText),
-		fails("from ^u | limit 1", ErrName), refused("ann", "from t | limit 1", ErrName, 5),
-	)
-}
