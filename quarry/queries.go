@@ -13,6 +13,14 @@ type stage struct {
 	act   act
 }
 
+// asking is a query that is being answered.
+type asking struct {
+	store   *Store
+	user    string
+	left    int // rows that it may still make
+	touched int // segments that it has read
+}
+
 // tally is what a stage has made: so many rows, or the first ErrMath.
 type tally struct {
 	place int // of the stage's first word
@@ -20,29 +28,29 @@ type tally struct {
 	wrong fault
 }
 
-// budget is how many rows a query may still make.
-type budget int
-
 func (q query) answer(s *Store, user string) (string, fault) {
-	seen, there := s.viewOf(user, q.table.text)
-	if !there {
-		return "", fault{ErrName, q.table.place}
-	}
-	if wrong := q.check(seen.columns()); wrong.is() {
+	a := &asking{store: s, user: user, left: s.options.Budget}
+	if wrong := q.check(a); wrong.is() {
 		return "", wrong
 	}
-	out, wrong := q.work(seen, s.options)
+	out, wrong := q.work(a)
 	if wrong.is() {
 		return "", wrong
 	}
+	s.touched = a.touched
 	return out.text(), fault{}
 }
 
 // check answers the first fault of the stages (P8): all of them are looked at
 // before any row is.
-func (q query) check(columns []column) fault {
+func (q query) check(a *asking) fault {
+	seen, wrong := a.viewOf(q.table)
+	if wrong.is() {
+		return wrong
+	}
+	columns := seen.columns()
 	for _, s := range q.stages {
-		made, wrong := s.act.over(columns)
+		made, wrong := s.act.over(columns, a)
 		if wrong.is() {
 			return wrong
 		}
@@ -53,50 +61,42 @@ func (q query) check(columns []column) fault {
 
 // work goes from stage to stage (P12). Those whose conditions were worked on
 // while the table was read are settled one by one, as if they had waited.
-func (q query) work(seen view, o Options) (sheet, fault) {
-	left := budget(o.Budget)
-	var early []*sieve
-	if o.Push {
-		early = q.firstSieves(seen.columns())
-	}
-	out, rows := seen.read(o, early)
-	if wrong := left.settle(tally{place: q.place, rows: rows}); wrong.is() {
+func (q query) work(a *asking) (sheet, fault) {
+	seen, _ := a.viewOf(q.table)
+	first := q.early(a, seen.columns())
+	out, rows := seen.read(a, first)
+	if wrong := a.settle(tally{place: q.place, rows: rows}); wrong.is() {
 		return sheet{}, wrong
 	}
 	for i, s := range q.stages {
 		made := tally{place: s.place}
-		if i < len(early) {
-			made.rows, made.wrong = early[i].kept, early[i].wrong
+		if i < len(first.sieves) {
+			made.rows, made.wrong = first.sieves[i].kept, first.sieves[i].wrong
 		} else {
-			out, made.wrong = s.act.work(out, o.Width)
+			out, made.wrong = s.act.work(out, a)
 			made.rows = out.cells.rows()
 		}
-		if wrong := left.settle(made); wrong.is() {
+		if wrong := a.settle(made); wrong.is() {
 			return sheet{}, wrong
 		}
 	}
 	return out, fault{}
 }
 
-// firstSieves answers those of the conditions right behind `from`.
-func (q query) firstSieves(columns []column) []*sieve {
-	var out []*sieve
-	for _, s := range q.stages {
-		w, is := s.act.(where)
-		if !is {
-			break
-		}
-		out = append(out, w.sieve(columns))
+func (a *asking) viewOf(table name) (view, fault) {
+	seen, there := a.store.viewOf(a.user, table.text)
+	if !there {
+		return view{}, fault{ErrName, table.place}
 	}
-	return out
+	return seen, fault{}
 }
 
-func (b *budget) settle(made tally) fault {
+func (a *asking) settle(made tally) fault {
 	if made.wrong.is() {
 		return made.wrong
 	}
-	*b -= budget(made.rows)
-	if *b < 0 {
+	a.left -= made.rows
+	if a.left < 0 {
 		return fault{ErrBudget, made.place}
 	}
 	return fault{}

@@ -237,13 +237,6 @@ func TestP13HiddenRowsNeitherCountNorErr(t *testing.T) {
 	}
 }
 
-func TestStagesThatAreNotBuiltAreRefused(t *testing.T) {
-	play(t, New(roomy),
-		done("admin", "create t(a int)"), fails("from t | ^order a", ErrText), fails("from t | where a = 1 | ^join t on a = a", ErrText), fails("from t | limit 1 | ^group : n = count() | limit 1", ErrText),
-		fails("from t | where ^b | order a", ErrName), fails("from ^u | order a", ErrName), refused("ann", "from t | order a", ErrName, 5),
-	)
-}
-
 func TestPushKeepsOnlyWhatTheFirstConditionsKeep(t *testing.T) {
 	for _, x := range []struct {
 		text  string
@@ -252,18 +245,21 @@ func TestPushKeepsOnlyWhatTheFirstConditionsKeep(t *testing.T) {
 	}{
 		{"from t", nil, 7}, {"from t | where n > 3", []int{4}, 4}, {"from t | where n > 3 | where n < 6 | where n = 4", []int{4, 2, 1}, 1}, {"from t | where n > 3 | limit 1 | where n < 6", []int{4}, 4}, {"from t | map n = n | where n > 3", nil, 7}, {"from t | where n > 3 | where 1 / (n - 5) = 1", []int{4, 0}, 0},
 	} {
-		s := numbered(t, roomy, 7, 0, 0)
+		o := roomy
+		o.Push = true
+		s := numbered(t, o, 7, 0, 0)
 		seen, _ := s.viewOf("admin", "t")
 		parsed, _ := parse(x.text)
-		early := parsed.(query).firstSieves(seen.columns())
-		out, count := seen.read(s.options, early)
-		if count != 7 || out.cells.rows() != x.rows || len(early) != len(x.early) {
-			t.Errorf("%q: %d rows read and %d copied, by %d conditions", x.text, count, out.cells.rows(), len(early))
+		a := &asking{store: s, user: "admin"}
+		early := parsed.(query).early(a, seen.columns())
+		out, count := seen.read(a, early)
+		if count != 7 || out.cells.rows() != x.rows || len(early.sieves) != len(x.early) {
+			t.Errorf("%q: %d rows read and %d copied, by %d conditions", x.text, count, out.cells.rows(), len(early.sieves))
 			continue
 		}
 		for i, kept := range x.early {
-			if early[i].kept != kept {
-				t.Errorf("%q: condition %d keeps %d rows, want %d", x.text, i, early[i].kept, kept)
+			if early.sieves[i].kept != kept {
+				t.Errorf("%q: condition %d keeps %d rows, want %d", x.text, i, early.sieves[i].kept, kept)
 			}
 		}
 	}

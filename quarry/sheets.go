@@ -15,13 +15,16 @@ func newSheet(columns []column) sheet {
 	return sheet{columns, make(batch, len(columns))}
 }
 
-// add lays some rows of a batch of the same columns behind those of the sheet.
-func (s sheet) add(b batch, rows []int) {
+// add lays a batch of the same columns behind the rows of the sheet.
+func (s sheet) add(b batch) {
 	for i, cells := range b {
-		for _, row := range rows {
-			s.cells[i] = append(s.cells[i], cells[row])
-		}
+		s.cells[i] = append(s.cells[i], cells...)
 	}
+}
+
+// column answers the cells of a column that the sheet has.
+func (s sheet) column(name string) []Cell {
+	return s.cells[indexOf(s.columns, name)]
 }
 
 // addWorked lays behind the rows of the sheet what the workers, one a column,

@@ -3,10 +3,10 @@ package quarry
 // act is what a stage does to the rows that come to it.
 type act interface {
 	// over answers the columns that it makes of these, or its first fault (P8).
-	over(columns []column) ([]column, fault)
-	// work makes its rows of those of a sheet without such a fault, batch by
-	// batch of that width, or answers the first ErrMath (P11, P12).
-	work(in sheet, width int) (sheet, fault)
+	over(columns []column, a *asking) ([]column, fault)
+	// work makes its rows of those of a sheet without such a fault, or answers
+	// the first ErrMath (P11, P12). It may stop at more rows than are left.
+	work(in sheet, a *asking) (sheet, fault)
 }
 
 type (
@@ -23,10 +23,6 @@ type (
 	limit struct {
 		count int
 	}
-	// unbuilt is a stage that is read and not yet worked out.
-	unbuilt struct {
-		place int
-	}
 )
 
 // sieve keeps of the rows that come to it those for which a condition is true,
@@ -37,14 +33,14 @@ type sieve struct {
 	wrong     fault
 }
 
-func (w where) over(columns []column) ([]column, fault) {
+func (w where) over(columns []column, _ *asking) ([]column, fault) {
 	return columns, w.condition.asCondition(columns)
 }
 
-func (w where) work(in sheet, width int) (sheet, fault) {
+func (w where) work(in sheet, a *asking) (sheet, fault) {
 	out, s := newSheet(in.columns), w.sieve(in.columns)
-	for b := range in.cells.pieces(width) {
-		out.add(b, s.keep(b, upTo(b.rows())))
+	for b := range in.cells.pieces(a.store.options.Width) {
+		out.add(b.pick(s.keep(b, upTo(b.rows()))))
 	}
 	return out, s.wrong
 }
@@ -71,7 +67,7 @@ func (s *sieve) keep(b batch, rows []int) []int {
 	return out
 }
 
-func (r remake) over(columns []column) ([]column, fault) {
+func (r remake) over(columns []column, _ *asking) ([]column, fault) {
 	var out []column
 	for _, c := range r.columns {
 		if indexOf(out, c.name.text) >= 0 {
@@ -86,14 +82,14 @@ func (r remake) over(columns []column) ([]column, fault) {
 	return out, fault{}
 }
 
-func (r remake) work(in sheet, width int) (sheet, fault) {
-	columns, _ := r.over(in.columns)
+func (r remake) work(in sheet, a *asking) (sheet, fault) {
+	columns, _ := r.over(in.columns, a)
 	out := newSheet(columns)
 	var workers []worker
 	for _, c := range r.columns {
 		workers = append(workers, compile(c.value.root, in.columns))
 	}
-	for b := range in.cells.pieces(width) {
+	for b := range in.cells.pieces(a.store.options.Width) {
 		if wrong := out.addWorked(b, workers); wrong.is() {
 			return out, wrong
 		}
@@ -101,12 +97,8 @@ func (r remake) work(in sheet, width int) (sheet, fault) {
 	return out, fault{}
 }
 
-func (l limit) over(columns []column) ([]column, fault) { return columns, fault{} }
+func (l limit) over(columns []column, _ *asking) ([]column, fault) { return columns, fault{} }
 
-func (l limit) work(in sheet, _ int) (sheet, fault) {
+func (l limit) work(in sheet, _ *asking) (sheet, fault) {
 	return sheet{in.columns, in.cells.part(0, min(l.count, in.cells.rows()))}, fault{}
 }
-
-func (u unbuilt) over([]column) ([]column, fault) { return nil, fault{ErrText, u.place} }
-
-func (u unbuilt) work(in sheet, _ int) (sheet, fault) { return in, fault{} }

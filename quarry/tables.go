@@ -21,6 +21,18 @@ func (b batch) part(from, to int) batch {
 	return out
 }
 
+// pick answers some of the rows, in the order in which they are named.
+func (b batch) pick(rows []int) batch {
+	out := make(batch, len(b))
+	for i, cells := range b {
+		out[i] = make([]Cell, len(rows))
+		for j, row := range rows {
+			out[i][j] = cells[row]
+		}
+	}
+	return out
+}
+
 // pieces goes through the rows in order, some at once.
 func (b batch) pieces(rows int) iter.Seq[batch] {
 	return func(yield func(batch) bool) {
@@ -32,8 +44,12 @@ func (b batch) pieces(rows int) iter.Seq[batch] {
 	}
 }
 
-// segment is a few rows of a table: the packed text of each column.
-type segment []string
+// segment is a few rows of a table: of each column the packed text and the zone.
+type segment struct {
+	rows  int
+	texts []string
+	zones []zone
+}
 
 type table struct {
 	columns  []column
@@ -66,17 +82,19 @@ func joined(first, second batch) batch {
 }
 
 func (t *table) packed(rows batch, p Packing) segment {
-	out := make(segment, len(rows))
-	for i := range out {
-		out[i], _ = Pack(p, t.columns[i].kind, rows[i])
+	out := segment{rows: rows.rows()}
+	for i, cells := range rows {
+		text, _ := Pack(p, t.columns[i].kind, cells)
+		out.texts = append(out.texts, text)
+		out.zones = append(out.zones, zoneOf(cells))
 	}
 	return out
 }
 
 func (s segment) unpacked() batch {
-	out := make(batch, len(s))
-	for i := range out {
-		_, out[i], _ = Unpack(s[i])
+	out := make(batch, len(s.texts))
+	for i, text := range s.texts {
+		_, out[i], _ = Unpack(text)
 	}
 	return out
 }

@@ -31,7 +31,7 @@ func TestRowsLieInFullSegmentsButForTheLast(t *testing.T) {
 			}
 			var got []string
 			for _, x := range kept.segments {
-				got = append(got, x...)
+				got = append(got, x.texts...)
 			}
 			if !slices.Equal(got, want) {
 				t.Fatalf("%+v, pieces of %d: segments %q, want %q", o, piece, got, want)

@@ -54,16 +54,18 @@ func (v view) columns() []column {
 // read goes through the view's rows, segment by segment and in each batch by
 // batch. It makes a sheet of those that all sieves keep, and tells how many the
 // view has: a sieve sees nothing but the view, because it could tell of more.
-func (v view) read(o Options, sieves []*sieve) (sheet, int) {
+func (v view) read(a *asking, first early) (sheet, int) {
 	out, count := newSheet(v.columns()), 0
 	for _, s := range v.table.segments {
-		for b := range s.unpacked().pieces(o.Width) {
+		if first.skips(s) {
+			count += s.rows
+			continue
+		}
+		a.touched++
+		for b := range s.unpacked().pieces(a.store.options.Width) {
 			rows, shown := v.rowsOf(b), v.shownOf(b)
 			count += len(rows)
-			for _, s := range sieves {
-				rows = s.keep(shown, rows)
-			}
-			out.add(shown, rows)
+			out.add(shown.pick(first.sift(shown, rows)))
 		}
 	}
 	return out, count
